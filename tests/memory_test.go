@@ -23,26 +23,33 @@ func overwrite[E any](result []E, value E) {
 	}
 }
 
-// checkApart calls a function with arguments that have spare capacity. Of
-// each argument, nothing may change in the call or when the result is
-// overwritten, and the result may not change when the argument is.
+// checkApart is checkApartOf for arguments that are numbers.
 func checkApart[A byte | int, R comparable](t *testing.T, name string, args [][]A, mark R, call func(args [][]A) []R) {
+	t.Helper()
+	checkApartOf(t, name, args, 77, 99, mark, call)
+}
+
+// checkApartOf calls a function with arguments whose spare capacity is full
+// of spare. Of each argument, nothing may change in the call or when the
+// result is overwritten with mark, and the result may not change when the
+// argument is overwritten with other.
+func checkApartOf[A, R comparable](t *testing.T, name string, args [][]A, spare A, other A, mark R, call func(args [][]A) []R) {
 	t.Helper()
 	given, wholes, before := [][]A{}, [][]A{}, [][]A{}
 	for _, arg := range args {
-		short, whole := roomy(arg, 77)
+		short, whole := roomy(arg, spare)
 		given, wholes = append(given, short), append(wholes, whole)
 		before = append(before, slices.Clone(whole))
 	}
 	result := call(given)
-	other := call(given)
+	again := call(given)
 	kept := slices.Clone(result)
-	overwrite(other, mark)
+	overwrite(again, mark)
 	for i := range wholes {
 		if !slices.Equal(wholes[i], before[i]) {
 			t.Errorf("%s: argument %d is %v, was %v", name, i, wholes[i], before[i])
 		}
-		overwrite(wholes[i], 99)
+		overwrite(wholes[i], other)
 	}
 	if !slices.Equal(result, kept) {
 		t.Errorf("%s: the result is %v, was %v", name, result, kept)
